@@ -15,6 +15,10 @@ def things_of(numbers):
     return [(numbers[at], numbers[at + 1]) for at in range(0, len(numbers), 2)]
 
 
+def size_of(things):
+    return sum([thing[0] for thing in things])
+
+
 def places_of(row, things):
     """Where in the row each thing stands; None if one of them is not there."""
     place_of = {}

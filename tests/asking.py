@@ -1,4 +1,4 @@
-"""What the tests share: calls written out, answers taken apart, and the sets found by trying all."""
+"""What the tests share: calls written out, answers taken apart, and sets and partitions found by trying all."""
 
 from itertools import combinations, combinations_with_replacement
 
@@ -36,6 +36,26 @@ def listing(repeats, size, lo, hi):
     return [5, repeats, size, lo, hi]
 
 
+def following(repeats, lo, hi, things):
+    return [6, repeats, lo, hi, len(things)] + things
+
+
+def turn(parts):
+    return [7, len(parts)] + parts
+
+
+def odd(parts):
+    return [8, len(parts)] + parts
+
+
+def once(parts):
+    return [9, len(parts)] + parts
+
+
+def diagonal(parts):
+    return [10, len(parts)] + parts
+
+
 def ask(*calls):
     """The answers to these calls, a list for each."""
     told = answers([each for call in calls for each in call])
@@ -61,6 +81,25 @@ def sets_by_trying(how_many, repeats, size, lo, hi):
     for length in range(lo, min(hi, size) + 1):
         found += [one for one in choose(things, length) if sum(weight for weight, each in one) == size]
     return sorted(found)
+
+
+def partitions_of(size, most=None):
+    """All partitions of this size into parts of at most so much."""
+    if size == 0:
+        return [[]]
+    found = []
+    for greatest in range(1, min(size, size if most is None else most) + 1):
+        found += [[greatest] + rest for rest in partitions_of(size - greatest, greatest)]
+    return found
+
+
+def ask_all(calls, ahead=()):
+    """The answers to any number of calls: a line has 60 at the most, so these are asked by lines, each behind ahead."""
+    answered = []
+    step = 60 - len(ahead)
+    for at in range(0, len(calls), step):
+        answered += ask(*ahead, *calls[at:at + step])[len(ahead):]
+    return answered
 
 
 def flat(one):

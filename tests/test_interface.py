@@ -1,13 +1,17 @@
 import unittest
 
-from asking import MOST, begin, count, listing, make, number
+from asking import MOST, begin, count, diagonal, following, listing, make, number, odd, once, turn
 from partsandsets.things import answers
 
 EACH_CALL = (begin([2, 1]) + count(0, 3, 0, 9) + make(1, 3, 0, 9, 1) + number(0, 0, 9, [1, 0, 2, 0])
              + listing(1, 2, 0, 9) + begin([61]) + count(2, 3, 0, 9) + make(0, 3, 0, 9, MOST)
-             + number(1, 0, 9, [2, 0, 1]) + listing(0, 61, 0, 9))
+             + number(1, 0, 9, [2, 0, 1]) + listing(0, 61, 0, 9) + following(0, 0, 9, [1, 1, 1, 1])
+             + turn([3, 1]) + odd([6, 1]) + once([3, 3, 1]) + diagonal([3, 2]) + following(1, 0, 9, [2, 0])
+             + turn([1, 3]) + odd([1, 1]) + once([2]) + diagonal([0]))
 EACH_ANSWER = [1, 3, 1, 6, 6, 2, 2, 1, 1, 2, 0, 2, 3, 3, 9, 2, 2, 1, 0, 1, 1, 1, 2, 0,
-               1, -1, 1, -1, 1, -3, 1, -3, 1, -1]
+               1, -1, 1, -1, 1, -3, 1, -3, 1, -1, 4, 3, 1, 2, 0,
+               4, 3, 2, 1, 1, 4, 3, 3, 3, 1, 3, 2, 6, 1, 5, 2, 2, 1, 0, 0, 1, -6,
+               1, -3, 1, -4, 1, -4, 1, -3]
 
 
 class Interface(unittest.TestCase):

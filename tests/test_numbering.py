@@ -2,7 +2,7 @@
 
 import unittest
 
-from asking import JUST_ALL, ask, begin, flat, last_answer, make, number, sets_by_trying
+from asking import JUST_ALL, ask_all, begin, flat, last_answer, make, number, sets_by_trying
 
 ROWS = [[1] * 60, [3, 2, 1], [0, 4, 0, 0, 2], [1, 0, 0, 0, 1], [5]]
 
@@ -12,20 +12,12 @@ def pairs_of(made):
     return tuple((made[at], made[at + 1]) for at in range(2, len(made), 2))
 
 
-def in_batches(row, calls):
-    """A line has 60 calls at the most, so the row is begun again for each 59 of them."""
-    answered = []
-    for at in range(0, len(calls), 59):
-        answered += ask(begin(row), *calls[at:at + 59])[1:]
-    return answered
-
-
 class Numbering(unittest.TestCase):
     def check_all_sets(self, row, repeats, size, lo, hi):
         first = last_answer(begin(row), make(repeats, size, lo, hi, 0))
         if first == [-3]:
             return 0
-        made = in_batches(row, [make(repeats, size, lo, hi, k) for k in range(first[0])])
+        made = ask_all([make(repeats, size, lo, hi, k) for k in range(first[0])], [begin(row)])
         sets = [pairs_of(each) for each in made]
         for answer, one in zip(made, sets):
             self.assertEqual(answer[:2], [first[0], len(one)])
@@ -35,7 +27,7 @@ class Numbering(unittest.TestCase):
             self.assertTrue(repeats == 0 or len(set(one)) == len(one))
         # Tuples of pairs compare as the document orders sets: by the earlier thing where they first differ.
         self.assertTrue(all(a < b for a, b in zip(sets, sets[1:])))
-        numbered = in_batches(row, [number(repeats, lo, hi, flat(one)) for one in sets])
+        numbered = ask_all([number(repeats, lo, hi, flat(one)) for one in sets], [begin(row)])
         self.assertEqual(numbered, [[k, size] for k in range(first[0])])
         return first[0]
 
